@@ -140,7 +140,7 @@ func wantNone(t *testing.T, call string, got [][]int, ok bool) {
 	}
 }
 
-// turn, mirror, invert and raise are for grids with which these functions succeed.
+// turn, mirror and beside are for grids with which these functions succeed.
 func turn(t *testing.T, g [][]int) [][]int {
 	t.Helper()
 	x, ok := impl.GridTurn(g)

@@ -408,14 +408,20 @@ func TestGridBesideAndBelowRefuse(t *testing.T) {
 	}
 }
 
+// checkRange compares GridRange with the least and the greatest height.
+func checkRange(t *testing.T, g [][]int) {
+	t.Helper()
+	all := slices.Concat(g...)
+	low, high, ok := impl.GridRange(g)
+	if !ok || low != slices.Min(all) || high != slices.Max(all) {
+		t.Errorf("GridRange(%v) = %d, %d, %v", g, low, high, ok)
+	}
+}
+
 // Promise 10: some cell has the least and some the greatest height, wherever they are.
 func TestGridRange(t *testing.T) {
 	for _, g := range sampleGrids() {
-		all := slices.Concat(g...)
-		low, high, ok := impl.GridRange(g)
-		if !ok || low != slices.Min(all) || high != slices.Max(all) {
-			t.Errorf("GridRange(%v) = %d, %d, %v", g, low, high, ok)
-		}
+		checkRange(t, g)
 	}
 	for _, size := range [][2]int{{1, 1}, {1, 2}, {1, 7}, {2, 1}, {7, 1}, {3, 4}, {7, 7}} {
 		cells := size[0] * size[1]
@@ -424,11 +430,7 @@ func TestGridRange(t *testing.T) {
 				g := fill(size[0], size[1], func(int) int { return 50 })
 				g[least/size[1]][least%size[1]] = 20
 				g[most/size[1]][most%size[1]] = 80
-				all := slices.Concat(g...)
-				low, high, ok := impl.GridRange(g)
-				if !ok || low != slices.Min(all) || high != slices.Max(all) {
-					t.Errorf("GridRange(%v) = %d, %d, %v", g, low, high, ok)
-				}
+				checkRange(t, g)
 			}
 		}
 	}
