@@ -6,71 +6,6 @@ import (
 	"loop.example/reliefmaps/impl"
 )
 
-const mark = -555
-
-// roomy returns a copy of a grid with room behind its rows and behind each row, filled with marks.
-func roomy(g [][]int) [][]int {
-	x := make([][]int, len(g)+2)
-	for r := range x {
-		x[r] = []int{mark}
-	}
-	for r := range g {
-		row := make([]int, len(g[r])+3)
-		for i := range row {
-			row[i] = mark
-		}
-		copy(row, g[r])
-		x[r] = row[:len(g[r])]
-	}
-	return x[:len(g)]
-}
-
-// roomyStays reports whether roomy(g) is as it was made, up to its capacity.
-func roomyStays(x, g [][]int) bool {
-	if !sameGrid(x, g) {
-		return false
-	}
-	for _, row := range x[len(x):cap(x)] {
-		if len(row) != 1 || row[0] != mark {
-			return false
-		}
-	}
-	for _, row := range x {
-		for _, h := range row[len(row):cap(row)] {
-			if h != mark {
-				return false
-			}
-		}
-	}
-	return true
-}
-
-// scribble writes into a result up to the capacity of its rows, and reports whether no two of these share memory.
-func scribble(g [][]int) bool {
-	for r := range g {
-		row := g[r][:cap(g[r])]
-		for i := range row {
-			row[i] = 1000 + r
-		}
-	}
-	for r := range g {
-		for _, h := range g[r][:cap(g[r])] {
-			if h != 1000+r {
-				return false
-			}
-		}
-	}
-	for r := range g[:cap(g)] {
-		g[:cap(g)][r] = []int{mark}
-	}
-	return true
-}
-
-type gridCall struct {
-	name string
-	run  func(g [][]int) ([][]int, bool)
-}
-
 func gridCalls() []gridCall {
 	return []gridCall{
 		{"GridSet", func(g [][]int) ([][]int, bool) { return impl.GridSet(g, len(g)-1, 0, 50) }},
@@ -92,25 +27,7 @@ func gridCalls() []gridCall {
 func TestGridMemory(t *testing.T) {
 	for _, call := range gridCalls() {
 		for _, g := range sampleGrids() {
-			x := roomy(g)
-			first, ok := call.run(x)
-			kept := cloneGrid(first)
-			if !roomyStays(x, g) {
-				t.Fatalf("%s changed its argument %v", call.name, g)
-			}
-			if !ok {
-				continue
-			}
-			second, _ := call.run(x)
-			if !scribble(first) {
-				t.Fatalf("%s of %v returned rows that share memory", call.name, g)
-			}
-			if !roomyStays(x, g) {
-				t.Fatalf("%s of %v shares memory with its argument", call.name, g)
-			}
-			if !sameGrid(second, kept) {
-				t.Fatalf("%s of %v shares memory with a later result", call.name, g)
-			}
+			checkGridMemory(t, call, g)
 		}
 	}
 }
