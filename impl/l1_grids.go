@@ -296,10 +296,22 @@ func rowFrom(line string) ([]int, bool) {
 }
 
 func heightFrom(word string) (int, bool) {
-	if len(word) != 2 || !isDigit(word[0]) || !isDigit(word[1]) {
+	return digitsNumber(word, 2, 2)
+}
+
+// digitsNumber is for a number of digits only, at least and at most so many. Atoi would allow signs, and any length.
+func digitsNumber(word string, least int, most int) (int, bool) {
+	if len(word) < least || len(word) > most {
 		return 0, false
 	}
-	return 10*int(word[0]-'0') + int(word[1]-'0'), true
+	number := 0
+	for i := range len(word) {
+		if !isDigit(word[i]) {
+			return 0, false
+		}
+		number = 10*number + int(word[i]-'0')
+	}
+	return number, true
 }
 
 func isDigit(b byte) bool {
